@@ -1,0 +1,1 @@
+"""Swarmwhole: content in pieces, shared by a swarm that forges, breaks and falls."""

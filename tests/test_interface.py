@@ -1,0 +1,76 @@
+"""The names and arguments of the interface, where each of them is defined, and its examples."""
+
+import importlib
+import inspect
+import unittest
+
+from swarmwhole.errors import BadOctets, BadText
+from swarmwhole.octets import as_octets, cut, from_hex, number_of, octets_of, text_of
+from swarmwhole.values import decode, dict_of, encode
+
+FUNCTIONS = {
+    "octets": (
+        "is_integer(value)", "is_octet(value)", "is_octets(value, *, size=None)", "octets_of(text)", "text_of(octets)",
+        "number_of(octets)", "as_octets(number, *, size)", "hex_of(octets)", "from_hex(text)", "joined(parts)",
+        "cut(octets, size)",
+    ),
+    "values": (
+        "is_value(value)", "encode(value)", "decode(octets)", "decode_at(octets, place)", "entry(value, key)",
+        "dict_of(pairs)",
+    ),
+    "sha": (
+        "first_primes(count)", "cube_root(number)", "square_word(number)", "cube_word(number)", "start_words()",
+        "round_words()", "rotated(word, count)", "padded(octets)", "block_words(block)", "expanded(words)",
+        "compressed(state, words, rounds)", "sha(octets, start, rounds)",
+    ),
+}
+
+# Each class with what creates it and its methods.
+CLASSES = {}
+
+
+class Interface(unittest.TestCase):
+    def test_each_function_is_defined_in_its_file_with_its_arguments(self):
+        for file, signatures in FUNCTIONS.items():
+            module = importlib.import_module(f"swarmwhole.{file}")
+            for signature in signatures:
+                with self.subTest(file=file, signature=signature):
+                    name = signature.partition("(")[0]
+                    found = getattr(module, name)
+                    self.assertTrue(inspect.isfunction(found))
+                    self.assertEqual(found.__module__, module.__name__)
+                    self.assertEqual(name + str(inspect.signature(found)), signature)
+
+    def test_each_class_is_defined_in_its_file_with_its_methods(self):
+        for (file, made), methods in CLASSES.items():
+            module = importlib.import_module(f"swarmwhole.{file}")
+            with self.subTest(file=file, made=made):
+                name = made.partition("(")[0]
+                found = getattr(module, name)
+                self.assertTrue(inspect.isclass(found))
+                self.assertEqual(found.__module__, module.__name__)
+                self.assertEqual(name + str(inspect.signature(found)), made)
+                for method in methods:
+                    word, _, arguments = method.partition("(")
+                    self.assertEqual(str(inspect.signature(vars(found)[word])), f"(self, {arguments}")
+
+
+class Examples(unittest.TestCase):
+    def test_octets(self):
+        self.assertEqual(number_of((1, 0, 2)), 65538)
+        self.assertEqual(as_octets(258, size=3), (0, 1, 2))
+        self.assertRaises(BadOctets, as_octets, 256, size=1)
+        self.assertEqual(cut((1, 2, 3, 4, 5), 2), [(1, 2), (3, 4), (5,)])
+        self.assertRaises(BadOctets, from_hex, "0a1")
+
+    def test_values(self):
+        value = ("list", (("int", -70), ("octets", (97, 98))))
+        self.assertEqual(text_of(encode(value)), "[n-70;o2:ab]")
+        self.assertEqual(decode(octets_of("{o1:an0;}")), ("dict", (((97,), ("int", 0)),)))
+        self.assertRaises(BadText, decode, octets_of("[n07;]"))
+        found = dict_of([((98,), ("int", 1)), ((97,), ("int", 2))])
+        self.assertEqual(found, ("dict", (((97,), ("int", 2)), ((98,), ("int", 1)))))
+
+
+if __name__ == "__main__":
+    unittest.main()
