@@ -70,7 +70,8 @@ def number_of(octets):
 
 def as_octets(number, *, size):
     """The octets, so many, that write an integer, the greatest part first."""
-    if number < 0 or number >> (8 * size) != 0:
+    # A negative number stays negative, however far it is moved.
+    if number >> (8 * size) != 0:
         raise BadOctets()
     return tuple([(number >> (8 * place)) & 255 for place in reversed(range(size))])
 
@@ -90,7 +91,10 @@ def from_hex(text):
 
 def joined(parts):
     """The octets of all parts, one behind the other."""
-    return tuple([octet for part in parts for octet in part])
+    found = []
+    for part in parts:
+        found.extend(part)
+    return tuple(found)
 
 
 def cut(octets, size):

@@ -2,6 +2,8 @@
 
 import copy
 
+from swarmwhole.errors import BadDescription
+
 # One of each kind that a function described with "for any value" may be handed.
 ANY_VALUES = (
     0, 1, -1, 255, 256, 2 ** 64, 1.0, 0.5, float("nan"), float("inf"), "", "a", "octets", True, False, None,
@@ -21,6 +23,15 @@ def nested(deep, innermost):
     for _ in range(deep - 1):
         value = ("list", (value,))
     return value
+
+
+def reason_of(function, *arguments):
+    """The reason of the BadDescription that the call raises, or None if it returns."""
+    try:
+        function(*arguments)
+    except BadDescription as error:
+        return error.reason
+    return None
 
 
 class Unchanged:

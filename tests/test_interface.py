@@ -4,6 +4,7 @@ import importlib
 import inspect
 import unittest
 
+from swarmwhole.digests import digest
 from swarmwhole.errors import BadOctets, BadText
 from swarmwhole.octets import as_octets, cut, from_hex, number_of, octets_of, text_of
 from swarmwhole.values import decode, dict_of, encode
@@ -23,10 +24,31 @@ FUNCTIONS = {
         "round_words()", "rotated(word, count)", "padded(octets)", "block_words(block)", "expanded(words)",
         "compressed(state, words, rounds)", "sha(octets, start, rounds)",
     ),
+    "digests": ("is_kind(value)", "digest(kind, octets)"),
+    "trees": (
+        "depth(count)", "root(hasher, pieces)", "proofs(hasher, pieces)", "fold(hasher, index, piece, proof)",
+        "is_proof(hasher, count, value)", "fits(hasher, top, count, index, piece, proof)",
+        "parted(hasher, pieces, index, piece, proof)",
+    ),
+    "descriptions": (
+        "is_name(value)", "is_path(value)", "check_description(description)", "text_of(description)", "parse(octets)",
+        "identity(description)", "total_length(description)", "piece_count(description)",
+        "piece_length(description, index)", "places(description, index)", "pieces_of(description, file)",
+    ),
+    "content": (
+        "describe(name, kind, size, files)", "cut(description, contents)", "join(description, pieces)",
+        "fits(description, contents)", "whole_files(description, had)",
+    ),
+    "messages": (
+        "is_message(description, value)", "message_octets(description, message)", "message_of(description, octets)",
+        "most_octets(description)",
+    ),
 }
 
 # Each class with what creates it and its methods.
-CLASSES = {}
+CLASSES = {
+    ("digests", "Hasher(kind)"): ("digest(octets)", "is_digest(value)"),
+}
 
 
 class Interface(unittest.TestCase):
@@ -70,6 +92,9 @@ class Examples(unittest.TestCase):
         self.assertRaises(BadText, decode, octets_of("[n07;]"))
         found = dict_of([((98,), ("int", 1)), ((97,), ("int", 2))])
         self.assertEqual(found, ("dict", (((97,), ("int", 2)), ((98,), ("int", 1)))))
+
+    def test_digests(self):
+        self.assertEqual(digest(("sum", 2), (0, 255)), (4, 224))
 
 
 if __name__ == "__main__":

@@ -1,7 +1,9 @@
 """Point 3 (no clock, no random numbers, no files, no network), and what can be counted of LANGUAGE.md."""
 
 import ast
+import builtins
 import pathlib
+import re
 import unittest
 
 import swarmwhole
@@ -18,6 +20,11 @@ BARRED_NAMES = {
     "open", "input", "eval", "exec", "compile", "globals", "locals", "vars", "dir", "id", "hash", "type", "print",
     "chr", "round", "filter", "object", "super", "delattr", "callable", "slice", "bin", "hex", "oct", "float",
     "complex", "bytes", "bytearray", "memoryview", "format", "iter", "next", "map", "register", "mro", "elements",
+}
+BARRED_WORDS = {
+    "type", "typing", "typing_extensions", "enum", "Enum", "IntEnum", "StrEnum", "Flag", "IntFlag", "Generic",
+    "Protocol",
+    "ABC", "ABCMeta", "namedtuple", "NamedTuple", "TypedDict", "TYPE_CHECKING", "abstractmethod", "_wall", "_WallAttr",
 }
 BARRED_NODES = (
     ast.Global, ast.AsyncFunctionDef, ast.Await, ast.AsyncFor, ast.AsyncWith, ast.Import, ast.Div, ast.MatMult, ast.Set,
@@ -78,6 +85,33 @@ class Language(unittest.TestCase):
             if isinstance(node, ast.FunctionDef):
                 with self.subTest(file=file, function=node.name):
                     self.assertLessEqual(node.end_lineno - node.lineno + 1, 40)
+
+    def test_names_are_bound_once_and_hide_nothing(self):
+        for path in files():
+            tree = ast.parse(path.read_text())
+            imported = [alias.name for node in tree.body if isinstance(node, ast.ImportFrom) for alias in node.names]
+            defined = [node.name for node in tree.body if isinstance(node, (ast.FunctionDef, ast.ClassDef))]
+            given = [target.id for node in tree.body if isinstance(node, ast.Assign) for target in node.targets]
+            bound = imported + defined + given
+            classes = {node.name for node in tree.body if isinstance(node, ast.ClassDef)}
+            inner = {node.arg for node in ast.walk(tree) if isinstance(node, ast.arg)}
+            for node in ast.walk(tree):
+                if isinstance(node, ast.Name) and isinstance(node.ctx, ast.Store):
+                    inner.add(node.id)
+            with self.subTest(path.name):
+                self.assertEqual(len(bound), len(set(bound)))
+                self.assertEqual(inner & (set(imported) | classes), set())
+                self.assertEqual((inner | set(bound)) & set(dir(builtins)), set())
+
+    def test_words_that_are_barred(self):
+        for path in files():
+            tree = ast.parse(path.read_text())
+            for node in ast.walk(tree):
+                if isinstance(node, (ast.Module, ast.ClassDef, ast.FunctionDef)) and ast.get_docstring(node):
+                    node.body[0] = ast.Pass()
+            words = set(re.findall(r"\w+", ast.unparse(tree)))
+            with self.subTest(path.name):
+                self.assertEqual(words & BARRED_WORDS, set())
 
     def test_no_two_files_import_from_each_other(self):
         imports = {path.stem: set() for path in files()}

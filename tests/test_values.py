@@ -69,16 +69,21 @@ class Values(unittest.TestCase):
 
     def test_104_what_is_no_value(self):
         wrong = (
-            ("int", True), ("int", False), ("int", None), ("int", 1.0), ("int", "1"), ("int", (1,)), ("int",), ("int", 1, 1),
-            ("octets", [1]), ("octets", "ab"), ("octets", (256,)), ("octets", (-1,)), ("octets", (True,)), ("octets", 1),
+            ("int", True), ("int", False), ("int", None), ("int", 1.0), ("int", "1"), ("int", (1,)), ("int",),
+            ("int", 1, 1),
+            ("octets", [1]), ("octets", "ab"), ("octets", (256,)), ("octets", (-1,)), ("octets", (True,)),
+            ("octets", 1),
             ("octets", None), ("octets", ((1,),)), ("octets",),
-            ("list", []), ("list", [ONE]), ("list", ONE), ("list", (1,)), ("list", ((),)), ("list", None), ("list", "ab"),
+            ("list", []), ("list", [ONE]), ("list", ONE), ("list", (1,)), ("list", ((),)), ("list", None),
+            ("list", "ab"),
             ("list", (ONE, ["int", 1])), ("list", (ONE, None)), ("list",),
-            ("dict", []), ("dict", {}), ("dict", [((97,), ONE)]), ("dict", ([(97,), ONE],)), ("dict", (((97,), ONE, ONE),)),
+            ("dict", []), ("dict", {}), ("dict", [((97,), ONE)]), ("dict", ([(97,), ONE],)),
+            ("dict", (((97,), ONE, ONE),)),
             ("dict", (((97,),),)), ("dict", (([97], ONE),)), ("dict", (("a", ONE),)), ("dict", ((97, ONE),)),
             ("dict", (((97,), 1),)), ("dict", (((256,), ONE),)), ("dict", (((True,), ONE),)), ("dict", ((),)),
             ("dict", (ONE,)), ("dict", (None,)), ("dict", 5), ("dict", ((None, ONE), (None, ONE))),
-            ["int", 1], ("Int", 1), ("integer", 1), (b"int", 1), (1, "int"), ("", ()), (None, ()), ((), ()), ("pair", ()),
+            ["int", 1], ("Int", 1), ("integer", 1), (b"int", 1), (1, "int"), ("", ()), (None, ()), ((), ()),
+            ("pair", ()),
         )
         for value in (*wrong, *ANY_VALUES):
             with self.subTest(value), Unchanged(self, value):
@@ -274,6 +279,10 @@ class Dictionaries(unittest.TestCase):
         for key in ([97], (256,), "a", None, 97):
             with self.subTest(key):
                 self.assertRaises(BadValue, dict_of, [(key, ONE)])
+                self.assertRaises(BadValue, dict_of, [((1,), ONE), (key, ONE), ((2,), ONE)])
+        for pair in (((97,),), ((97,), ONE, ONE), [(97,), ONE], (), None, 5):
+            with self.subTest(pair):
+                self.assertRaises(BadValue, dict_of, [((1,), ONE), pair])
 
     def test_104_entries(self):
         value = dict_of([((1,), ("int", 1)), ((1, 2), ("int", 2)), ((1, 2, 3), ("int", 3)), ((2,), ("int", 4))])
