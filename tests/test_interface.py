@@ -43,11 +43,22 @@ FUNCTIONS = {
         "is_message(description, value)", "message_octets(description, message)", "message_of(description, octets)",
         "most_octets(description)",
     ),
+    "frames": ("frame(description, message)",),
+    "store": ("disk_size(description)", "fits(hasher, description, index, octets, proof)"),
+    "wishes": ("wanted(claims, held)", "choice(claims, held, fields, asked)"),
 }
 
 # Each class with what creates it and its methods.
 CLASSES = {
     ("digests", "Hasher(kind)"): ("digest(octets)", "is_digest(value)"),
+    ("frames", "Reader(description)"): ("feed(octets)", "fault()", "place()", "waiting()"),
+    ("disk", "Disk(size)"): (
+        "write(offset, octets)", "read(offset, count)", "sync()", "arm(count)", "pending()", "fall(kept)",
+    ),
+    ("store", "Store(disk, description)"): (
+        "life()", "put(index, octets, proof)", "sync()", "had()", "held()", "piece(index)", "proof(index)", "complete()",
+    ),
+    ("turns", "Turns()"): ("step(wishing, given)", "leave(number)", "served()"),
 }
 
 
@@ -74,7 +85,8 @@ class Interface(unittest.TestCase):
                 self.assertEqual(name + str(inspect.signature(found)), made)
                 for method in methods:
                     word, _, arguments = method.partition("(")
-                    self.assertEqual(str(inspect.signature(vars(found)[word])), f"(self, {arguments}")
+                    taken = f"(self, {arguments}".replace(", )", ")")
+                    self.assertEqual(str(inspect.signature(vars(found)[word])), taken)
 
 
 class Examples(unittest.TestCase):

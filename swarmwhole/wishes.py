@@ -1,0 +1,23 @@
+"""What is wished of a neighbour, and which piece it is asked for (points 606 and 607)."""
+
+
+def wanted(claims, held):
+    """The list of the pieces that are claimed and not held, ascending."""
+    there = set(held)
+    return [index for index, claimed in enumerate(claims) if claimed and index not in there]
+
+
+def choice(claims, held, fields, asked):
+    """The piece that a neighbour is asked for, or None."""
+    pieces = wanted(claims, held)
+    if len(pieces) == 0:
+        return None
+    free = [(_claimed(fields, index), index) for index in pieces if index not in asked]
+    if len(free) == 0:
+        return pieces[0]
+    return min(free)[1]
+
+
+def _claimed(fields, index):
+    """How many neighbours claim a piece."""
+    return len([field for field in fields if field[index]])
