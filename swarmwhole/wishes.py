@@ -21,3 +21,15 @@ def choice(claims, held, fields, asked):
 def _claimed(fields, index):
     """How many neighbours claim a piece."""
     return len([field for field in fields if field[index]])
+
+
+class Rarest:
+    """The policy of a peer that has no other one (point 610)."""
+
+    def wants(self, claims, held):
+        """The list of the pieces that the neighbour may be asked for."""
+        return wanted(claims, held)
+
+    def choose(self, claims, held, fields, asked):
+        """The piece that the neighbour is asked for, or None."""
+        return choice(claims, held, fields, asked)

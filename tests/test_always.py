@@ -7,8 +7,7 @@ from swarmwhole.digests import Hasher
 from swarmwhole.disk import Disk
 from swarmwhole.errors import BadPiece, DiskFell
 from swarmwhole.store import Store, disk_size, fits
-from tests.samples import SHA
-from tests.test_store import Sample
+from tests.samples import SHA, Sample
 
 
 class Spy(Disk):

@@ -94,7 +94,8 @@ class Frames(unittest.TestCase):
         longer = content(65536, kind=("sum", 1), size=65536)[0]
         found = frame(longer, ("piece", 0, (7,) * 65536, ()))
         self.assertEqual(found[:9], (0, 1, 0, 5, 8, 0, 0, 0, 0))
-        self.assertEqual(heard(longer, [stream_of(("hello", 1, (1,)), ("field", (True,)), description=longer), found])[0][-1],
+        self.assertEqual(heard(longer,
+                               [stream_of(("hello", 1, (1,)), ("field", (True,)), description=longer), found])[0][-1],
                          ("piece", 0, (7,) * 65536, ()))
 
     def test_403_what_is_no_message(self):
@@ -278,7 +279,8 @@ class Waiting(unittest.TestCase):
 class Drawn(unittest.TestCase):
     def streams(self, chance):
         """Conversations, with something changed in most of them."""
-        parts = [frame(FIVE, message) for message in (HELLO, FIELD) + tuple(chance.choices(LATER, k=chance.randrange(5)))]
+        parts = [frame(FIVE, message) for message in (HELLO,
+                                                      FIELD) + tuple(chance.choices(LATER, k=chance.randrange(5)))]
         deed = chance.randrange(6)
         place = chance.randrange(len(parts))
         if deed == 0:

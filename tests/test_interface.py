@@ -46,6 +46,13 @@ FUNCTIONS = {
     "frames": ("frame(description, message)",),
     "store": ("disk_size(description)", "fits(hasher, description, index, octets, proof)"),
     "wishes": ("wanted(claims, held)", "choice(claims, held, fields, asked)"),
+    "schedules": ("is_event(value)", "check_schedule(schedule)", "check_world(world, count)"),
+    "judges": (
+        "piece_fault(description, rows)", "kept_fault(rows)", "collisions(description, pieces, rows)",
+        "told_fault(description, honest, rows)", "claim_fault(honest, rows)", "turn_fault(honest, rows, bound)",
+        "lacking(description, honest, rows, tick)", "stuck(description, honest, rows, since, window)", "forgers(rows)",
+        "judge(description, pieces, honest, rows, bound)",
+    ),
 }
 
 # Each class with what creates it and its methods.
@@ -56,9 +63,18 @@ CLASSES = {
         "write(offset, octets)", "read(offset, count)", "sync()", "arm(count)", "pending()", "fall(kept)",
     ),
     ("store", "Store(disk, description)"): (
-        "life()", "put(index, octets, proof)", "sync()", "had()", "held()", "piece(index)", "proof(index)", "complete()",
+        "life()", "put(index, octets, proof)", "sync()", "had()", "held()", "piece(index)", "proof(index)",
+        "complete()",
     ),
     ("turns", "Turns()"): ("step(wishing, given)", "leave(number)", "served()"),
+    ("peer", "Peer(description, store, *, policy=None)"): (
+        "takes(neighbour)", "connected(neighbour)", "broken(neighbour)", "received(neighbour, octets)", "tick()",
+        "synced()", "deeds()", "events()",
+    ),
+    ("swarm", "Swarm(description, pieces, world, *, policies=None)"): (
+        "tick(events)", "run(schedule)", "quiet(ticks)", "store(number)", "had(number)",
+    ),
+    ("logs", "Log()"): ("add(row)", "rows()"),
 }
 
 

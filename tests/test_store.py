@@ -2,46 +2,13 @@
 
 import unittest
 
-from swarmwhole.content import cut
 from swarmwhole.digests import Hasher
 from swarmwhole.disk import Disk
 from swarmwhole.errors import BadPiece, DiskFell
 from swarmwhole.store import Store, disk_size, fits
-from swarmwhole.trees import depth, fold, proofs
+from swarmwhole.trees import depth, fold
 from tests.helpers import ANY_VALUES, Unchanged
-from tests.samples import SHA, content, path, raw
-
-
-class Sample:
-    """A description with its pieces and their proofs."""
-
-    def __init__(self, *counts, kind=("sum", 2), size=4):
-        self.description, files = content(*counts, kind=kind, size=size)
-        self.pieces = cut(self.description, files)
-        self.hasher = Hasher(kind)
-        self.proofs = proofs(self.hasher, self.pieces)
-
-    def disk(self):
-        return Disk(disk_size(self.description))
-
-    def store(self, *indexes, disk=None):
-        """A store with these pieces on a disk."""
-        store = Store(self.disk() if disk is None else disk, self.description)
-        for index in indexes:
-            self.put(store, index)
-        store.sync()
-        return store
-
-    def put(self, store, index):
-        return store.put(index, self.pieces[index], self.proofs[index])
-
-    def slot(self, index):
-        return self.pieces[index] + tuple(octet for item in self.proofs[index] for octet in item)
-
-    def slots(self, *indexes):
-        """All slots, with what belongs there in those with the indexes, and zeros in the others."""
-        return sum((self.slot(index) if index in indexes else (0,) * len(self.slot(index))
-                    for index in range(len(self.pieces))), ())
+from tests.samples import SHA, Sample, path, raw
 
 
 FIVE = Sample(9, 0, 10)
@@ -126,7 +93,8 @@ class Fits(unittest.TestCase):
         sample = Sample(9, kind=("sum", 1))
         first = sample.pieces[0]
         # 31 times the one more and 31 less of the next one leave the digest as it is.
-        forged = (first[0] + 1, first[1] - 31) + first[2:] if first[1] >= 31 else (first[0] - 1, first[1] + 31) + first[2:]
+        forged = (first[0] + 1, first[1] - 31) + first[2:] if first[1] >= 31 else (first[0] - 1,
+                                                                                   first[1] + 31) + first[2:]
         self.assertTrue(all(0 <= octet < 256 for octet in forged))
         self.check(True, sample, 0, forged, sample.proofs[0])
 
@@ -182,14 +150,16 @@ class Lives(StoreCase):
             self.assertEqual(disk.read(0, 32), lives(*places))
 
     def test_504_the_greatest_readable_life_counts(self):
-        for first, second in ((1, 2), (2, 1), (7, 6), (6, 7), (300, 2), (3, 2 ** 40), (5, 5), (2 ** 63, 1), (4, 0), (0, 9)):
+        for first, second in ((1, 2), (2, 1), (7, 6), (6, 7), (300, 2), (3, 2 ** 40), (5, 5), (2 ** 63, 1), (4, 0),
+                              (0, 9)):
             life = max(first, second) + 1
             due = lives(life, second) if life % 2 == 0 else lives(first, life)
             self.assertEqual(self.life(lives(first, second)), (life, due))
 
     def test_504_places_that_are_not_readable(self):
         torn = number(9)[:4] + (0,) * 4 + number(9)
-        for one in (number(9) + number(8), torn, number(0) + number(9), number(9) + number(0), number(255) + number(256)):
+        for one in (number(9) + number(8), torn, number(0) + number(9), number(9) + number(0),
+                    number(255) + number(256)):
             life, octets = self.life(one, number(4) * 2)
             self.assertEqual((life, octets), (5, one + number(5) * 2))
             life, octets = self.life(number(3) * 2, one)
@@ -346,7 +316,8 @@ class Puts(StoreCase):
     def test_506_a_held_piece_stays_when_another_one_fits_too(self):
         sample = Sample(9, kind=("sum", 1))
         first = sample.pieces[0]
-        forged = (first[0] + 1, first[1] - 31) + first[2:] if first[1] >= 31 else (first[0] - 1, first[1] + 31) + first[2:]
+        forged = (first[0] + 1, first[1] - 31) + first[2:] if first[1] >= 31 else (first[0] - 1,
+                                                                                   first[1] + 31) + first[2:]
         store = sample.store(0)
         self.assertIs(store.put(0, forged, sample.proofs[0]), False)
         self.holds(store, sample, (0,), (0,))
