@@ -13,6 +13,8 @@ EVENTS = {
     "fall": ("number", "kept"),
     "rise": ("number",),
 }
+# The events of a connection as a whole, which name the lesser number first.
+CONNECTION_WORDS = ("join", "cut")
 
 
 def is_event(value):
@@ -23,7 +25,9 @@ def is_event(value):
     if not isinstance(word, str) or word not in EVENTS:
         return False
     sorts = EVENTS[word]
-    return len(items) == len(sorts) and all([_is_item(sort, item) for sort, item in zip(sorts, items)])
+    if len(items) != len(sorts) or not all([_is_item(sort, item) for sort, item in zip(sorts, items)]):
+        return False
+    return word not in CONNECTION_WORDS or items[0] < items[1]
 
 
 def _is_item(sort, value):

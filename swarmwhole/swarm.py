@@ -142,8 +142,7 @@ class Swarm:
         return number in self._peers and self._peers[number].takes(neighbour)
 
     def _cut(self, one, other):
-        # A pair in the wrong order is no connection.
-        if one < other and self._lines.is_up(one, other):
+        if self._lines.is_up(one, other):
             self._end(one, other)
 
     def _end(self, one, other):

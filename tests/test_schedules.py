@@ -64,9 +64,14 @@ class Events(unittest.TestCase):
                 ("rise", 1, 2),
                 (["join"], 0, 1), ({}, 0), ("number", 0), b"rise", ("join", 0, 1, 2))
 
-    def test_703_any_two_numbers_stand_in_join_and_cut(self):
-        # Which of them is less is a condition, and an event whose condition does not hold changes nothing.
-        self.yes(("join", 1, 0), ("cut", 1, 0), ("join", 2, 2))
+    def test_703_in_join_and_cut_the_lesser_number_stands_first(self):
+        for word in ("join", "cut"):
+            self.no((word, 3, 0), (word, 1, 0), (word, 2, 2), (word, 0, 0), (word, 10 ** 12 + 1, 10 ** 12))
+            self.yes((word, 0, 3), (word, 0, 1), (word, 7, 8), (word, 10 ** 12, 10 ** 12 + 1))
+
+    def test_703_in_the_other_events_numbers_stand_in_any_order(self):
+        self.yes(("flow", 3, 0, None), ("flow", 3, 3, 2), ("flow", 0, 3, 1), ("forge", 3, 0, (1, 255)),
+                 ("forge", 3, 3, ()), ("arm", 3, 0, (3,)), ("arm", 0, 0, ()), ("fall", 3, (0,)))
 
 
 class Schedules(unittest.TestCase):
@@ -98,6 +103,13 @@ class Schedules(unittest.TestCase):
             self.bad((right, wrong, (), wrong, None), 1)
         self.bad(((), [], None), 1)
         self.bad(right, 0)
+
+    def test_703_a_join_or_cut_in_the_wrong_order(self):
+        right = (("rise", 1),)
+        for wrong in (("join", 3, 0), ("cut", 1, 0), ("join", 2, 2), ("cut", 4, 4)):
+            self.bad((right, (("rise", 1), wrong)), 1)
+            self.bad(((wrong,), right, (wrong,)), 0)
+        self.assertIsNone(check_schedule((right, (("rise", 1), ("join", 0, 3), ("cut", 1, 4)))))
 
 
 class Worlds(unittest.TestCase):

@@ -165,8 +165,12 @@ class Joins(SwarmCase):
         self.assertEqual(self.rows(swarm, ("join", 2, 3), ("join", 3, 4), ("join", 3, 7)), [(2, "up", 3), (4, "up", 3)])
 
     def test_703_joins_that_change_nothing(self):
-        self.nothing((), ("join", 1, 3), ("join", 4, 7), ("join", 2, 1), ("join", 2, 2), ("join", 0, 1),
-                     ("join", 50, 60))
+        self.nothing((), ("join", 1, 3), ("join", 4, 7))
+
+    def test_703_events_of_strangers_that_change_nothing(self):
+        strangers = [(word, one, other) for word in ("join", "cut") for one, other in ((0, 1), (4, 5), (5, 6), (50, 60))]
+        self.nothing((), *strangers)
+        self.nothing((("join", 1, 2), ("join", 2, 3), ("join", 3, 7)), *strangers)
 
     def test_703_not_if_it_is_up(self):
         self.nothing((("join", 1, 2), ("join", 2, 3), ("join", 3, 7)), ("join", 1, 2), ("join", 2, 3), ("join", 3, 7))
@@ -206,9 +210,7 @@ class Cuts(SwarmCase):
                          [(2, "down", 3), (4, "down", 3)])
 
     def test_703_cuts_that_change_nothing(self):
-        self.nothing((("join", 1, 2), ("join", 3, 4)), ("cut", 1, 4), ("cut", 2, 1), ("cut", 4, 3), ("cut", 1, 3),
-                     ("cut", 1, 1),
-                     ("cut", 8, 9), ("cut", 3, 7))
+        self.nothing((("join", 1, 2), ("join", 3, 4)), ("cut", 1, 4), ("cut", 1, 3), ("cut", 3, 7))
         self.nothing((("join", 1, 2), ("cut", 1, 2)), ("cut", 1, 2))
 
 
@@ -337,6 +339,20 @@ class Ticks(SwarmCase):
                 swarm.run(schedule)
             self.assertEqual(caught.exception.tick, tick)
             self.assertEqual((swarm.now, swarm.log.rows()), (0, before))
+
+    def test_703_a_schedule_with_a_join_or_cut_in_the_wrong_order_does_nothing(self):
+        right = (("fall", 4, ()), ("join", 1, 2), ("flow", 1, 2, None))
+        for wrong in (("join", 3, 0), ("join", 2, 2), ("cut", 1, 0), ("cut", 4, 4), ("join", 2, 1), ("cut", 2, 1)):
+            swarm = swarm_of()
+            swarm.run(((("join", 1, 2),),))
+            before = swarm.log.rows()
+            had = [swarm.had(number) for number in (1, 2, 4)]
+            for schedule, tick in (((right, right + (wrong,)), 1), (((wrong,),), 0), ((right, (), (wrong,), None), 2)):
+                with self.assertRaises(BadSchedule) as caught:
+                    swarm.run(schedule)
+                self.assertEqual(caught.exception.tick, tick)
+                self.assertEqual((swarm.now, swarm.log.rows()), (1, before))
+                self.assertEqual([swarm.had(number) for number in (1, 2, 4)], had)
 
 
 class Falls(SwarmCase):
