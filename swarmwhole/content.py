@@ -10,12 +10,18 @@ from swarmwhole.trees import root
 
 def describe(name, kind, size, files):
     """The description of content; the files are a tuple of pairs of a path and octets."""
+    rows = described_files(name, kind, size, files)
+    pieces = stream_pieces([octets for _, octets in files], size)
+    return (name, kind, size, rows, root(Hasher(kind), pieces))
+
+
+def described_files(name, kind, size, files):
+    """The files as a description has them; raises for any value what `describe` raises."""
     if not isinstance(files, tuple) or not all(_is_file(item) for item in files):
         raise BadContent()
     rows = tuple([(path, len(octets)) for path, octets in files])
     check_shape(name, kind, size, rows)
-    pieces = stream_pieces([octets for _, octets in files], size)
-    return (name, kind, size, rows, root(Hasher(kind), pieces))
+    return rows
 
 
 def _is_file(value):

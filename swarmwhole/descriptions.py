@@ -1,10 +1,14 @@
 """Descriptions of content: their form, their texts and their places (points 300 to 307)."""
 
-from swarmwhole.digests import SHA, SUM, digest, is_kind
-from swarmwhole.errors import BadContent, BadDescription, BadText
+from swarmwhole.digests import digest, is_kind
+from swarmwhole.errors import BadContent, BadDescription, BadValue
+from swarmwhole.forms import (
+    int_in, kind_in, kind_value, list_in, list_value, octets_in, octets_list, octets_rows_in, pair_in, table_in,
+    table_value, value_in,
+)
 from swarmwhole.layout import count_of, length_of, runs_of, span_of, total_of
-from swarmwhole.octets import is_integer, is_octets, octets_of
-from swarmwhole.values import decode, dict_of, encode
+from swarmwhole.octets import is_integer, is_octets
+from swarmwhole.values import encode
 
 MOST_NAME = 40
 MOST_PARTS = 8
@@ -91,76 +95,35 @@ def text_of(description):
     """The octets of the text of a description."""
     check_description(description)
     name, kind, size, files, top = description
-    held = (
-        _list([_list([_list([("octets", part) for part in path]), ("int", length)]) for path, length in files]),
-        _list([("octets", octets_of(kind[0])), ("int", kind[1])]),
-        ("octets", name),
-        ("octets", top),
-        ("int", size),
-    )
-    return encode(dict_of([(octets_of(key), value) for key, value in zip(KEYS, held)]))
-
-
-def _list(items):
-    return ("list", tuple(items))
+    return encode(table_value({
+        "files": list_value([list_value([octets_list(path), ("int", length)]) for path, length in files]),
+        "kind": kind_value(kind),
+        "name": ("octets", name),
+        "root": ("octets", top),
+        "size": ("int", size),
+    }))
 
 
 def parse(octets):
     """The description whose text the octets are, for any value."""
-    if not is_octets(octets):
-        raise BadDescription("text")
-    description = _description_of(_value_of(octets))
+    try:
+        description = _description_in(value_in(octets))
+    except BadValue:
+        raise BadDescription("text") from None
     check_description(description)
     return description
 
 
-def _value_of(octets):
-    try:
-        return decode(octets)
-    except BadText:
-        raise BadDescription("text") from None
-
-
-def _description_of(value):
+def _description_in(value):
     """What stands in a value of the form of a description; its items may still be wrong."""
-    pairs = _held(value, "dict")
-    if [key for key, _ in pairs] != [octets_of(key) for key in KEYS]:
-        raise BadDescription("text")
-    files, kind, name, top, size = [item for _, item in pairs]
-    rows = tuple([_file_of(item) for item in _held(files, "list")])
-    return (_held(name, "octets"), _kind_of(kind), _held(size, "int"), rows, _held(top, "octets"))
+    files, kind, name, top, size = table_in(value, KEYS)
+    rows = tuple([_file_in(item) for item in list_in(files)])
+    return (octets_in(name), kind_in(kind), int_in(size), rows, octets_in(top))
 
 
-def _held(value, word):
-    """What a value of the sort that the word tells holds."""
-    if value[0] != word:
-        raise BadDescription("text")
-    return value[1]
-
-
-def _pair_of(value):
-    items = _held(value, "list")
-    if len(items) != 2:
-        raise BadDescription("text")
-    return items
-
-
-def _file_of(value):
-    path, length = _pair_of(value)
-    return (tuple([_held(part, "octets") for part in _held(path, "list")]), _held(length, "int"))
-
-
-def _kind_of(value):
-    name, size = _pair_of(value)
-    return (_kind_word(_held(name, "octets")), _held(size, "int"))
-
-
-def _kind_word(octets):
-    """The name of the kind; other octets stay what they are, so that the check finds no kind there."""
-    for word in (SHA, SUM):
-        if octets == octets_of(word):
-            return word
-    return octets
+def _file_in(value):
+    path, length = pair_in(value)
+    return (octets_rows_in(path), int_in(length))
 
 
 def identity(description):

@@ -1,12 +1,8 @@
 """Trees of digests over pieces, and the proofs that they give (points 208 to 211)."""
 
 from swarmwhole.errors import BadProof
+from swarmwhole.leaves import LEAF, NODE, leaves_of, proof_in, proofs_of, root_of, rows_over
 from swarmwhole.octets import is_integer, is_octets
-
-# What stands ahead in the texts of leaves and of nodes, and the text of what fills up the row of leaves.
-LEAF = (0,)
-NODE = (1,)
-FILL = (2,)
 
 
 def depth(count):
@@ -16,30 +12,12 @@ def depth(count):
 
 def root(hasher, pieces):
     """The root of the tree over pieces."""
-    return _rows(hasher, pieces)[-1][0]
+    return root_of(hasher, leaves_of(hasher, pieces))
 
 
 def proofs(hasher, pieces):
     """The tuple of the proofs of all pieces in order."""
-    rows = _rows(hasher, pieces)
-    return tuple([_proof(rows, index) for index in range(len(pieces))])
-
-
-def _rows(hasher, pieces):
-    """The rows of the tree, from the leaves to the root."""
-    leaves = [hasher.digest(LEAF + piece) for piece in pieces]
-    lacking = (1 << depth(len(pieces))) - len(pieces)
-    row = leaves + [hasher.digest(FILL)] * lacking
-    rows = [row]
-    while len(row) > 1:
-        row = [hasher.digest(NODE + row[place] + row[place + 1]) for place in range(0, len(row), 2)]
-        rows.append(row)
-    return rows
-
-
-def _proof(rows, index):
-    # The two of a pair differ in the lowest bit of their places.
-    return tuple([row[(index >> height) ^ 1] for height, row in enumerate(rows[:-1])])
+    return proofs_of(hasher, leaves_of(hasher, pieces))
 
 
 def fold(hasher, index, piece, proof):
@@ -77,10 +55,10 @@ def fits(hasher, top, count, index, piece, proof):
 
 def parted(hasher, pieces, index, piece, proof):
     """The text of the true way and the other one with the same digest, or None if nothing is forged."""
-    rows = _rows(hasher, pieces)
+    rows = rows_over(hasher, leaves_of(hasher, pieces))
     if not fits(hasher, rows[-1][0], len(pieces), index, piece, proof):
         raise BadProof()
-    true_way = _texts(hasher, index, pieces[index], _proof(rows, index))
+    true_way = _texts(hasher, index, pieces[index], proof_in(rows, index))
     other_way = _texts(hasher, index, piece, proof)
     for true_text, other_text in zip(true_way, other_way):
         if true_text != other_text and hasher.digest(true_text) == hasher.digest(other_text):

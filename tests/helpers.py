@@ -2,7 +2,7 @@
 
 import copy
 
-from swarmwhole.errors import BadDescription
+from swarmwhole.errors import BadDescription, SwarmError
 
 # One of each kind that a function described with "for any value" may be handed.
 ANY_VALUES = (
@@ -31,6 +31,15 @@ def reason_of(function, *arguments):
         function(*arguments)
     except BadDescription as error:
         return error.reason
+    return None
+
+
+def told(function, *arguments):
+    """The class and the attributes of the error of the program that the call raises, or None if it returns."""
+    try:
+        function(*arguments)
+    except SwarmError as error:
+        return (type(error), *vars(error).values())
     return None
 
 

@@ -53,6 +53,11 @@ FUNCTIONS = {
         "lacking(description, honest, rows, tick)", "stuck(description, honest, rows, since, window)", "forgers(rows)",
         "judge(description, pieces, honest, rows, bound)",
     ),
+    "cases": ("check_case(case)", "case_text(case)", "parse_case(octets)"),
+    "reports": ("report(case)", "report_text(found)"),
+    "jobs": ("job(octets)",),
+    "leaves": ("leaves_of(hasher, pieces)", "root_of(hasher, leaves)", "proofs_of(hasher, leaves)"),
+    "entries": ("check_entry(entry)", "entry_text(entry)", "entry_identity(entry)", "entry_of(octets)"),
 }
 
 # Each class with what creates it and its methods.

@@ -168,7 +168,8 @@ class Joins(SwarmCase):
         self.nothing((), ("join", 1, 3), ("join", 4, 7))
 
     def test_703_events_of_strangers_that_change_nothing(self):
-        strangers = [(word, one, other) for word in ("join", "cut") for one, other in ((0, 1), (4, 5), (5, 6), (50, 60))]
+        pairs = (0, 1), (4, 5), (5, 6), (50, 60)
+        strangers = [(word, *pair) for word in ("join", "cut") for pair in pairs]
         self.nothing((), *strangers)
         self.nothing((("join", 1, 2), ("join", 2, 3), ("join", 3, 7)), *strangers)
 
