@@ -4,20 +4,15 @@ from swarmwhole.descriptions import piece_count
 from swarmwhole.digests import Hasher
 from swarmwhole.errors import BadPiece
 from swarmwhole.layout import count_of, length_of, total_of
-from swarmwhole.octets import as_octets, cut, is_integer, is_octets, joined, number_of
+from swarmwhole.octets import cut, is_integer, is_octets, joined
 from swarmwhole.trees import depth, fold, is_proof
-
-LIFE_PLACES = 2
-# A life place has the number of a life twice.
-NUMBER_SIZE = 8
-LIFE_SIZE = 2 * NUMBER_SIZE
-SLOTS_OFFSET = LIFE_PLACES * LIFE_SIZE
+from swarmwhole.twice import PLACES, PLACES_SIZE, number_at, write_number
 
 
 def disk_size(description):
     """The number of octets of the two life places and all slots."""
     count = piece_count(description)
-    return SLOTS_OFFSET + total_of(description) + count * _proof_size(description)
+    return PLACES_SIZE + total_of(description) + count * _proof_size(description)
 
 
 def _proof_size(description):
@@ -27,7 +22,7 @@ def _proof_size(description):
 
 def _slot_offset(description, index):
     # Only the last piece may be shorter than the piece size, and no slot stands behind its one.
-    return SLOTS_OFFSET + index * (description[2] + _proof_size(description))
+    return PLACES_SIZE + index * (description[2] + _proof_size(description))
 
 
 def fits(hasher, description, index, octets, proof):
@@ -40,12 +35,6 @@ def fits(hasher, description, index, octets, proof):
     return fold(hasher, index, octets, proof) == description[4]
 
 
-def _life_at(disk, place):
-    """The life that can be read in a life place, or 0."""
-    first, second = cut(disk.read(place * LIFE_SIZE, LIFE_SIZE), NUMBER_SIZE)
-    return number_of(first) if first == second else 0
-
-
 class Store:
     """Holds the pieces that were put into it, and has those that are durable."""
 
@@ -54,16 +43,11 @@ class Store:
         self._description = description
         self._disk = disk
         self._hasher = Hasher(description[1])
-        self._life = 1 + max([_life_at(disk, place) for place in range(LIFE_PLACES)])
-        self._write_life()
+        self._life = 1 + max([number_at(disk, place) for place in range(PLACES)])
+        write_number(disk, self._life % PLACES, self._life)
         # The octets and the proof of each piece that is held, and True for each piece that is had.
         self._held = self._read_slots()
         self._had = {index: True for index in self._held}
-
-    def _write_life(self):
-        number = as_octets(self._life, size=NUMBER_SIZE)
-        self._disk.write(self._life % LIFE_PLACES * LIFE_SIZE, number + number)
-        self._disk.sync()
 
     def _read_slots(self):
         """What the slots hold that fits, by the index."""

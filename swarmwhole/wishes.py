@@ -12,10 +12,13 @@ def choice(claims, held, fields, asked):
     pieces = wanted(claims, held)
     if len(pieces) == 0:
         return None
-    free = [(_claimed(fields, index), index) for index in pieces if index not in asked]
-    if len(free) == 0:
-        return pieces[0]
-    return min(free)[1]
+    free = [index for index in pieces if index not in asked]
+    return rarest(free, fields) if len(free) > 0 else pieces[0]
+
+
+def rarest(pieces, fields):
+    """The one of the pieces that the fewest neighbours claim, of equals the least one."""
+    return min([(_claimed(fields, index), index) for index in pieces])[1]
 
 
 def _claimed(fields, index):

@@ -58,6 +58,12 @@ FUNCTIONS = {
     "jobs": ("job(octets)",),
     "leaves": ("leaves_of(hasher, pieces)", "root_of(hasher, leaves)", "proofs_of(hasher, leaves)"),
     "entries": ("check_entry(entry)", "entry_text(entry)", "entry_identity(entry)", "entry_of(octets)"),
+    "histories": (
+        "check_history(history)", "head(history)", "published(history, name, kind, size, files)",
+        "relation(one, other)", "collided(one, other)",
+    ),
+    "plans": ("plan(old, had, new)", "made(old, had, new)", "fetched(rows)"),
+    "keeper": ("keeper_size(size)",),
 }
 
 # Each class with what creates it and its methods.
@@ -80,6 +86,15 @@ CLASSES = {
         "tick(events)", "run(schedule)", "quiet(ticks)", "store(number)", "had(number)",
     ),
     ("logs", "Log()"): ("add(row)", "rows()"),
+    ("histories", "Follower(history)"): ("history()", "forks()", "take(other)"),
+    ("keeper", "Keeper(disk, size, history)"): (
+        "version()", "serial()", "store()", "had()", "move(version)", "spread()",
+    ),
+    ("playing", "Plan(description, files, window)"): (
+        "total()", "place()", "move(place)", "wanted()", "ahead()", "at(place)", "wants(claims, held)",
+        "choose(claims, held, fields, asked)",
+    ),
+    ("players", "Player(plan, disk)"): ("place()", "play(store, rate)"),
 }
 
 

@@ -2,6 +2,7 @@
 
 import random
 import unittest
+from unittest import mock
 
 from swarmwhole.content import cut, describe, whole_files
 from swarmwhole.descriptions import identity
@@ -10,7 +11,7 @@ from swarmwhole.frames import frame
 from swarmwhole.judges import collisions, forgers, judge, lacking
 from swarmwhole.reports import report, report_text
 from swarmwhole.swarm import Swarm
-from tests.casework import ALL, FILES, case
+from tests.casework import ALL, FILES, WORLD, case
 from tests.drawn import Liar, collision, draw_events, draw_world
 from tests.helpers import ANY_VALUES, Unchanged, octets, told
 from tests.samples import NAME, SHA, Sample, files_of
@@ -177,6 +178,28 @@ class Reports(ReportCase):
         rows = played(case(world=world, schedule=(), quiet=60)).log.rows()
         self.assertNotEqual(judge(*described(case()), tuple(range(10)), rows, 20), [])
         self.report(case(world=world, schedule=(), quiet=60), faults=())
+
+    def test_904_the_bound_is_that_of_all_peers(self):
+        for world, count in ((WORLD, 5), (((), (3, 7), ()), 2), ((((4, ()),), (), ()), 1),
+                             ((((4, ()),), (1, 5, 9), ()), 4)):
+            with mock.patch("swarmwhole.reports.judge", return_value=[("life", 1, 2)]) as asked:
+                self.assertEqual(report(case(world=world, schedule=(), quiet=1))[5], (("life", 1, 2),))
+            self.assertEqual(asked.call_args.args[4], 5 * count)
+
+    def test_904_what_is_lacking_in_the_last_tick(self):
+        """Also if it is the only one, and if its only row says that a piece is had."""
+        self.report(case(world=(((4, (2,)),), (), ()), schedule=(), quiet=0), lacking=4)
+        self.report(case(world=(((4, ()),), (), ()), schedule=(), quiet=0), lacking=5)
+        sample = Sample(9, 0, 10)
+        world = (((1, ALL), (4, (0, 1, 2, 3))), (), ((1, 4),))
+        for quiet in range(20):
+            given = case(world=world, schedule=(), quiet=quiet)
+            found = self.report(given)
+            rows = played(given).log.rows()
+            if found[6] == 0:
+                self.assertEqual(rows[-1][1:], (4, "had", 4, sample.pieces[4], sample.proofs[4]))
+                return
+        raise AssertionError("the piece does not come")
 
     def test_904_what_is_no_case(self):
         for value in ANY_VALUES:
