@@ -179,6 +179,38 @@ class Moves(KeeperCase):
         self.assertEqual(disk.pending(), 0)
         self.assertEqual(disk.octets()[:64], BOX.mark(2, 1) + BOX.mark(1, 0))
 
+    def test_1012_the_octets_of_the_disk_behind_each_call(self):
+        def octets(*operations):
+            """A disk of zeros behind writes."""
+            found = [0] * keeper_size(BOX.size)
+            for offset, held in operations:
+                found[offset:offset + len(held)] = held
+            return tuple(found)
+
+        disk = BOX.disk()
+        keeper = Keeper(disk, BOX.size, BOX.history)
+        passed = [(32, BOX.mark(1, 0)), BOX.life(1, 1)]
+        self.assertEqual(disk.octets(), octets(*passed))
+        BOX.put(keeper, 0, 1, 2, 3)
+        passed += [operation for index in range(4) for operation in BOX.slot(1, 0, index)]
+        self.assertEqual(disk.octets(), octets(*passed))
+        keeper.move(2)
+        passed += [BOX.life(2, 1), *[operation for index in (1, 2, 3) for operation in BOX.slot(2, 2, index)],
+                   (0, BOX.mark(2, 2))]
+        self.assertEqual(disk.octets(), octets(*passed))
+        keeper.spread()
+        self.assertEqual(disk.octets(), octets(*passed))
+        keeper.move(1)
+        # No piece can be made, and what stands in the slots of the half stays there.
+        passed += [BOX.life(3, 2), (32, BOX.mark(3, 1))]
+        self.assertEqual(keeper.had(), {})
+        self.assertEqual(disk.octets(), octets(*passed))
+        BOX.put(keeper, 1)
+        passed += BOX.slot(3, 1, 1)
+        self.assertEqual(disk.octets(), octets(*passed))
+        Keeper(disk, BOX.size, BOX.history)
+        self.assertEqual(disk.octets(), octets(*passed, BOX.life(3, 3)))
+
     def test_1012_without_a_piece_to_put(self):
         disk = BOX.disk()
         keeper = BOX.keeper(disk, 1)
